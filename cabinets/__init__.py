@@ -1,0 +1,1 @@
+"""Who can govern: votes on sets of parties, and which cabinets stand."""

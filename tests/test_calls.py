@@ -1,0 +1,99 @@
+"""The interface: what is handed in stays as it was, nothing is kept or printed, and the kinds of what is given back."""
+
+import contextlib
+import inspect
+import io
+import unittest
+
+from cabinets import govern
+from tests.houses import TOP, houses
+
+
+def refuse_change(self, *args, **kwargs):
+    raise AssertionError("a list that was handed in is changed")
+
+
+class Untouched(list):
+    """A list that tells of any change at once, one that is undone later too."""
+
+    append = clear = extend = insert = pop = remove = reverse = sort = refuse_change
+    __setitem__ = __delitem__ = __iadd__ = __imul__ = refuse_change
+
+
+# Of each call, ahead of the house: answered, refused by -2, by -22.
+HOUSE = ([10, 20, 30, 5], [2, 0, 3, 1], [1, 2])
+CALLS = [
+    (govern.vote, (1,), HOUSE),
+    (govern.vote, (0,), HOUSE),
+    (govern.vote, (TOP,), HOUSE),
+    (govern.vote, (1,), ([10, 0], [0, 1], [])),
+    (govern.vote, (1,), ([10, 5], [0, 1, 1], [])),
+    (govern.vote, (0,), ([], [], [])),
+    (govern.stands, (0, 1), HOUSE),
+    (govern.stands, (1, 1), HOUSE),
+    (govern.stands, (2, 6), HOUSE),
+    (govern.stands, (2, TOP), HOUSE),
+    (govern.stands, (3, 1), HOUSE),
+    (govern.stands, (1, 1), ([10, 5], [], [0, 2])),
+    (govern.stands, (1, 0), ([], [], [])),
+]
+
+
+class EachCallByItself(unittest.TestCase):
+    def test_names_and_arguments(self):
+        self.assertEqual(list(inspect.signature(govern.vote).parameters), ["s", "seats", "likes", "hates"])
+        self.assertEqual(list(inspect.signature(govern.stands).parameters), ["r", "s", "seats", "likes", "hates"])
+        self.assertEqual(govern.vote(s=1, seats=[1], likes=[], hates=[]), [1, 0, 0])
+        self.assertEqual(govern.stands(r=0, s=1, seats=[1], likes=[], hates=[]), [1])
+
+    def test_what_is_handed_in_is_not_changed(self):
+        for call, ahead, house in CALLS:
+            handed = [list(part) for part in house]
+            call(*ahead, *handed)
+            self.assertEqual(handed, list(house))
+
+    def test_nor_changed_for_a_while(self):
+        for call, ahead, house in CALLS:
+            call(*ahead, *[Untouched(part) for part in house])
+
+    def test_one_list_may_be_handed_in_twice(self):
+        both = [0, 1]
+        self.assertEqual(govern.vote(1, [10, 20], both, both), [10, 20, 0])
+        self.assertEqual(both, [0, 1])
+
+    def test_the_same_call_twice_answers_the_same(self):
+        first = [call(*ahead, *house) for call, ahead, house in CALLS]
+        second = [call(*ahead, *house) for call, ahead, house in reversed(CALLS)]
+        self.assertEqual(first, second[::-1])
+
+    def test_changing_an_answer_changes_no_later_one(self):
+        for call, ahead, house in CALLS:
+            answer = call(*ahead, *house)
+            kept = list(answer)
+            answer[0] = 77
+            answer.append(78)
+            self.assertEqual(call(*ahead, *house), kept)
+
+    def test_an_answer_is_a_list_of_whole_numbers(self):
+        for call, ahead, house in CALLS:
+            answer = call(*ahead, *house)
+            self.assertIs(type(answer), list)
+            self.assertEqual([type(number) for number in answer], [int] * len(answer))
+
+    def test_how_many_numbers_are_answered(self):
+        for seats, likes, hates in houses(70):
+            for s in range(2 ** len(seats) + 2):
+                for call, ahead, many in ((govern.vote, (s,), 3), (govern.stands, (1, s), 1)):
+                    answer = call(*ahead, seats, likes, hates)
+                    self.assertEqual(len(answer), 1 if answer[0] < 0 else many)
+
+    def test_nothing_is_printed(self):
+        out, err = io.StringIO(), io.StringIO()
+        with contextlib.redirect_stdout(out), contextlib.redirect_stderr(err):
+            for call, ahead, house in CALLS:
+                call(*ahead, *house)
+        self.assertEqual((out.getvalue(), err.getvalue()), ("", ""))
+
+
+if __name__ == "__main__":
+    unittest.main()
