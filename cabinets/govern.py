@@ -1,4 +1,4 @@
-"""Votes on a set of parties, and whether it is a cabinet that stands.
+"""Votes on a set of parties, and which sets are cabinets that stand.
 
 A set is told as a number in which party i counts 2^i. Likes and hates are
 flat lists: of each like (hate) the two parties one behind the other.
@@ -47,8 +47,8 @@ def house_is_as_told(seats, likes, hates):
     return pairs_are_as_told(likes, len(seats)) and pairs_are_as_told(hates, len(seats))
 
 
-def rule_is_as_told(r):
-    return r <= NOT_MORE_THAN_HALF_AGAINST
+def house_and_rule_are_as_told(r, seats, likes, hates):
+    return house_is_as_told(seats, likes, hates) and r <= NOT_MORE_THAN_HALF_AGAINST
 
 
 def somebody_is_none(s, seats):
@@ -120,6 +120,23 @@ def is_standing_cabinet(r, s, seats, likes, hates):
     return has_what_rule_asks(r, votes_on(s, seats, likes, hates))
 
 
+def standing_cabinets(r, seats, likes, hates):
+    # Walked from the least set on, so that the answers rise.
+    return [s for s in range(1 << len(seats)) if is_standing_cabinet(r, s, seats, likes, hates)]
+
+
+def none_can_leave(s, parties, standing_sets):
+    # Who is alone can't leave either: nobody is left then, and that is never among the sets that stand.
+    for party in range(parties):
+        if is_of(party, s) and (s - (1 << party)) in standing_sets:
+            return False
+    return True
+
+
+def counted(sets):
+    return [len(sets)] + sets
+
+
 def vote(s, seats, likes, hates):
     if not house_is_as_told(seats, likes, hates):
         return [NOT_AS_TOLD]
@@ -129,8 +146,21 @@ def vote(s, seats, likes, hates):
 
 
 def stands(r, s, seats, likes, hates):
-    if not house_is_as_told(seats, likes, hates) or not rule_is_as_told(r):
+    if not house_and_rule_are_as_told(r, seats, likes, hates):
         return [NOT_AS_TOLD]
     if somebody_is_none(s, seats):
         return [NO_SUCH_PARTY]
     return [1 if is_standing_cabinet(r, s, seats, likes, hates) else 0]
+
+
+def standing(r, seats, likes, hates):
+    if not house_and_rule_are_as_told(r, seats, likes, hates):
+        return [NOT_AS_TOLD]
+    return counted(standing_cabinets(r, seats, likes, hates))
+
+
+def tight(r, seats, likes, hates):
+    if not house_and_rule_are_as_told(r, seats, likes, hates):
+        return [NOT_AS_TOLD]
+    standing_sets = standing_cabinets(r, seats, likes, hates)
+    return counted([s for s in standing_sets if none_can_leave(s, len(seats), standing_sets)])

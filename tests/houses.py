@@ -54,3 +54,38 @@ def told_stands(r, s, seats, likes, hates):
     pro, con, _ = told_votes(s, seats, likes, hates)
     whole = sum(seats)
     return [int((pro > con, pro > whole - pro, con <= whole - con)[r])]
+
+
+def told_standing(r, seats, likes, hates):
+    those = [s for s in range(2 ** len(seats)) if told_stands(r, s, seats, likes, hates) == [1]]
+    return [len(those), *those]
+
+
+def told_tight(r, seats, likes, hates):
+    def stays(s, i):
+        return told_stands(r, s & ~2 ** i, seats, likes, hates) == [1]
+
+    those = [s for s in told_standing(r, seats, likes, hates)[1:]
+             if not any(stays(s, i) for i in range(len(seats)) if s & 2 ** i)]
+    return [len(those), *those]
+
+
+def parties_of(s):
+    return {i for i in range(6) if s & 2 ** i}
+
+
+def seats_of(s, seats):
+    return sum(seats[i] for i in parties_of(s))
+
+
+# A house of six parties, and the same told by 40 likes' and 40 hates' numbers:
+# the last like and the last hate stand there once alone.
+SIX = ([50, 40, 30, 20, 10, 5], [3, 0, 4, 1, 5, 2], [0, 2, 4, 5])
+SIX_BY_FORTY = (SIX[0], [3, 0, 5, 2] * 9 + [3, 0, 4, 1], [0, 2] * 19 + [4, 5])
+
+# By rule 1 party 0 stands alone, no two of 0, 1 and 2 do, and the three do:
+# party 3 likes 0, but hates 1 and 2.
+ALONE_OR_THREE = ([20, 20, 20, 50], [3, 0], [3, 1, 3, 2])
+
+# Each hates each other: none stands by any rule.
+ALL_HATE = ([10, 10, 10], [], [0, 1, 1, 2, 2, 0])

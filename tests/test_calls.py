@@ -6,7 +6,7 @@ import io
 import unittest
 
 from cabinets import govern
-from tests.houses import TOP, houses
+from tests.houses import ALL_HATE, TOP, houses
 
 
 def refuse_change(self, *args, **kwargs):
@@ -37,6 +37,13 @@ CALLS = [
     (govern.stands, (1, 1), ([10, 5], [], [0, 2])),
     (govern.stands, (1, 0), ([], [], [])),
 ]
+for each in (govern.standing, govern.tight):
+    for rule in (0, 1, 2, 3, TOP):
+        CALLS.append((each, (rule,), HOUSE))
+    CALLS.append((each, (0,), ([], [], [])))
+    CALLS.append((each, (0,), ALL_HATE))
+    CALLS.append((each, (1,), ([10, 201], [], [])))
+    CALLS.append((each, (1,), ([10, 5], [0, 0], [])))
 
 
 class EachCallByItself(unittest.TestCase):
@@ -45,6 +52,9 @@ class EachCallByItself(unittest.TestCase):
         self.assertEqual(list(inspect.signature(govern.stands).parameters), ["r", "s", "seats", "likes", "hates"])
         self.assertEqual(govern.vote(s=1, seats=[1], likes=[], hates=[]), [1, 0, 0])
         self.assertEqual(govern.stands(r=0, s=1, seats=[1], likes=[], hates=[]), [1])
+        for call in (govern.standing, govern.tight):
+            self.assertEqual(list(inspect.signature(call).parameters), ["r", "seats", "likes", "hates"])
+            self.assertEqual(call(r=0, seats=[1], likes=[], hates=[]), [1, 1])
 
     def test_what_is_handed_in_is_not_changed(self):
         for call, ahead, house in CALLS:
@@ -59,6 +69,8 @@ class EachCallByItself(unittest.TestCase):
     def test_one_list_may_be_handed_in_twice(self):
         both = [0, 1]
         self.assertEqual(govern.vote(1, [10, 20], both, both), [10, 20, 0])
+        self.assertEqual(govern.standing(0, [10, 20], both, both), [1, 2])
+        self.assertEqual(govern.tight(0, [10, 20], both, both), [1, 2])
         self.assertEqual(both, [0, 1])
 
     def test_the_same_call_twice_answers_the_same(self):
@@ -86,6 +98,10 @@ class EachCallByItself(unittest.TestCase):
                 for call, ahead, many in ((govern.vote, (s,), 3), (govern.stands, (1, s), 1)):
                     answer = call(*ahead, seats, likes, hates)
                     self.assertEqual(len(answer), 1 if answer[0] < 0 else many)
+            for r in range(5):
+                for call in (govern.standing, govern.tight):
+                    answer = call(r, seats, likes, hates)
+                    self.assertEqual(len(answer), 1 if answer[0] < 0 else 1 + answer[0])
 
     def test_nothing_is_printed(self):
         out, err = io.StringIO(), io.StringIO()
