@@ -1,4 +1,4 @@
-"""Votes on a set of parties, and which sets are cabinets that stand.
+"""Votes on a set of parties, which sets are cabinets that stand, and the least of these.
 
 A set is told as a number in which party i counts 2^i. Likes and hates are
 flat lists: of each like (hate) the two parties one behind the other.
@@ -6,6 +6,7 @@ flat lists: of each like (hate) the two parties one behind the other.
 
 NOT_AS_TOLD = -22
 NO_SUCH_PARTY = -2
+NONE_STANDS = -33
 
 MOST_PARTIES = 6
 MOST_SEATS = 200
@@ -137,6 +138,17 @@ def counted(sets):
     return [len(sets)] + sets
 
 
+def together(s, sizes):
+    return sum([sizes[party] for party in range(len(sizes)) if is_of(party, s)])
+
+
+def least_together(sets, sizes):
+    if len(sets) == 0:
+        return [NONE_STANDS]
+    least = min([together(s, sizes) for s in sets])
+    return [least, min([s for s in sets if together(s, sizes) == least])]
+
+
 def vote(s, seats, likes, hates):
     if not house_is_as_told(seats, likes, hates):
         return [NOT_AS_TOLD]
@@ -164,3 +176,16 @@ def tight(r, seats, likes, hates):
         return [NOT_AS_TOLD]
     standing_sets = standing_cabinets(r, seats, likes, hates)
     return counted([s for s in standing_sets if none_can_leave(s, len(seats), standing_sets)])
+
+
+def fewest(r, seats, likes, hates):
+    if not house_and_rule_are_as_told(r, seats, likes, hates):
+        return [NOT_AS_TOLD]
+    # Each party counts 1, whatever its seats, so that what is least is how many parties there are.
+    return least_together(standing_cabinets(r, seats, likes, hates), [1] * len(seats))
+
+
+def smallest(r, seats, likes, hates):
+    if not house_and_rule_are_as_told(r, seats, likes, hates):
+        return [NOT_AS_TOLD]
+    return least_together(standing_cabinets(r, seats, likes, hates), seats)

@@ -74,8 +74,25 @@ def parties_of(s):
     return {i for i in range(6) if s & 2 ** i}
 
 
+def how_many(s, seats):
+    return len(parties_of(s))
+
+
 def seats_of(s, seats):
     return sum(seats[i] for i in parties_of(s))
+
+
+def told_least(measure, r, seats, likes, hates):
+    those = told_standing(r, seats, likes, hates)[1:]
+    return list(min((measure(s, seats), s) for s in those)) if those else [-33]
+
+
+def told_fewest(r, seats, likes, hates):
+    return told_least(how_many, r, seats, likes, hates)
+
+
+def told_smallest(r, seats, likes, hates):
+    return told_least(seats_of, r, seats, likes, hates)
 
 
 # A house of six parties, and the same told by 40 likes' and 40 hates' numbers:
@@ -89,3 +106,12 @@ ALONE_OR_THREE = ([20, 20, 20, 50], [3, 0], [3, 1, 3, 2])
 
 # Each hates each other: none stands by any rule.
 ALL_HATE = ([10, 10, 10], [], [0, 1, 1, 2, 2, 0])
+
+# Two and two hate each other, so that nobody gets more than half for it: none stands by rule 1.
+# By rule 0 party 2 stands alone, whom party 1 likes.
+NO_MAJORITY = ([10, 10, 10, 10], [1, 2], [0, 1, 2, 3])
+
+# By rule 1 party 5 stands alone, by the last like, and party 0 doesn't, by the last hate.
+LAST_OF_FORTY = ([31, 30, 29, 28, 32, 27],
+                 [0, 5, 2, 5, 2, 0, 3, 0] * 4 + [1, 0] * 3 + [1, 5],
+                 [3, 4] * 19 + [0, 1])

@@ -37,7 +37,8 @@ CALLS = [
     (govern.stands, (1, 1), ([10, 5], [], [0, 2])),
     (govern.stands, (1, 0), ([], [], [])),
 ]
-for each in (govern.standing, govern.tight):
+BY_RULE = (govern.standing, govern.tight, govern.fewest, govern.smallest)
+for each in BY_RULE:
     for rule in (0, 1, 2, 3, TOP):
         CALLS.append((each, (rule,), HOUSE))
     CALLS.append((each, (0,), ([], [], [])))
@@ -52,7 +53,7 @@ class EachCallByItself(unittest.TestCase):
         self.assertEqual(list(inspect.signature(govern.stands).parameters), ["r", "s", "seats", "likes", "hates"])
         self.assertEqual(govern.vote(s=1, seats=[1], likes=[], hates=[]), [1, 0, 0])
         self.assertEqual(govern.stands(r=0, s=1, seats=[1], likes=[], hates=[]), [1])
-        for call in (govern.standing, govern.tight):
+        for call in BY_RULE:
             self.assertEqual(list(inspect.signature(call).parameters), ["r", "seats", "likes", "hates"])
             self.assertEqual(call(r=0, seats=[1], likes=[], hates=[]), [1, 1])
 
@@ -71,6 +72,8 @@ class EachCallByItself(unittest.TestCase):
         self.assertEqual(govern.vote(1, [10, 20], both, both), [10, 20, 0])
         self.assertEqual(govern.standing(0, [10, 20], both, both), [1, 2])
         self.assertEqual(govern.tight(0, [10, 20], both, both), [1, 2])
+        self.assertEqual(govern.fewest(0, [10, 20], both, both), [1, 2])
+        self.assertEqual(govern.smallest(0, [10, 20], both, both), [20, 2])
         self.assertEqual(both, [0, 1])
 
     def test_the_same_call_twice_answers_the_same(self):
@@ -102,6 +105,9 @@ class EachCallByItself(unittest.TestCase):
                 for call in (govern.standing, govern.tight):
                     answer = call(r, seats, likes, hates)
                     self.assertEqual(len(answer), 1 if answer[0] < 0 else 1 + answer[0])
+                for call in (govern.fewest, govern.smallest):
+                    answer = call(r, seats, likes, hates)
+                    self.assertEqual(len(answer), 1 if answer[0] < 0 else 2)
 
     def test_nothing_is_printed(self):
         out, err = io.StringIO(), io.StringIO()

@@ -1,11 +1,14 @@
-"""Promise 1: which refusal is answered, by vote, stands, standing and tight."""
+"""Promise 1: which refusal is answered, by each call."""
 
 import unittest
 
-from cabinets.govern import standing, stands, tight, vote
+from cabinets.govern import fewest, smallest, standing, stands, tight, vote
 from tests.houses import ALL_HATE, TOP
 
 SEATS = [10, 20, 30]
+
+# The calls that are told a rule and a house, and nothing else.
+BY_RULE = (standing, tight, fewest, smallest)
 
 
 class Refusals(unittest.TestCase):
@@ -21,8 +24,8 @@ class Refusals(unittest.TestCase):
         self.set_refused(s, seats, likes, hates, -22)
         with self.subTest(seats=seats, likes=likes, hates=hates):
             for r in range(3):
-                self.assertEqual(standing(r, seats, likes, hates), [-22])
-                self.assertEqual(tight(r, seats, likes, hates), [-22])
+                for call in BY_RULE:
+                    self.assertEqual(call(r, seats, likes, hates), [-22])
 
     def not_refused(self, s, seats, likes, hates):
         with self.subTest(s=s, seats=seats, likes=likes, hates=hates):
@@ -32,6 +35,11 @@ class Refusals(unittest.TestCase):
                 for call in (standing, tight):
                     answer = call(r, seats, likes, hates)
                     self.assertEqual(answer[0], len(answer) - 1)
+                for call in (fewest, smallest):
+                    # Where nobody stands, a refusal is due, but not that of a house not as told.
+                    one_stands = standing(r, seats, likes, hates) != [0]
+                    self.assertEqual(len(call(r, seats, likes, hates)), 2 if one_stands else 1)
+                    self.assertNotEqual(call(r, seats, likes, hates), [-22])
 
 
 class HouseNotAsTold(Refusals):
@@ -71,6 +79,10 @@ class HouseNotAsTold(Refusals):
         self.assertEqual(standing(2, SEATS, [], [1, 2] * 19 + [2, 0]), [4, 1, 2, 3, 4])
         self.assertEqual(tight(1, SEATS, [0, 1] * 19 + [2, 0], []), [2, 1, 6])
         self.assertEqual(tight(2, SEATS, [], [1, 2] * 19 + [2, 0]), [3, 1, 2, 4])
+        self.assertEqual(fewest(1, SEATS, [0, 1] * 19 + [2, 0], []), [1, 1])
+        self.assertEqual(fewest(1, SEATS, [], [0, 1] * 19 + [2, 0]), [2, 6])
+        self.assertEqual(smallest(1, SEATS, [0, 1] * 19 + [2, 0], []), [10, 1])
+        self.assertEqual(smallest(1, SEATS, [], [0, 1] * 19 + [2, 0]), [50, 6])
 
     def test_one_that_likes_or_hates_itself(self):
         for told in ([0, 0], [2, 2], [0, 1, 1, 1], [1, 1, 0, 1]):
@@ -106,13 +118,13 @@ class RuleNotAsTold(unittest.TestCase):
             for s in (0, 1, 7):
                 self.assertEqual(stands(r, s, SEATS, [], []), [-22])
             self.assertEqual(stands(r, 0, [], [], []), [-22])
-            for call in (standing, tight):
+            for call in BY_RULE:
                 self.assertEqual(call(r, SEATS, [0, 1], [1, 2]), [-22])
                 self.assertEqual(call(r, [7], [], []), [-22])
 
     def test_a_rule_above_2_where_none_stands(self):
         for r in (3, TOP):
-            for call in (standing, tight):
+            for call in BY_RULE:
                 self.assertEqual(call(r, [], [], []), [-22])
                 self.assertEqual(call(r, *ALL_HATE), [-22])
 
@@ -130,6 +142,15 @@ class NoSuchParty(Refusals):
 
 
 class TwoAtOnce(Refusals):
+    def test_a_house_not_as_told_in_which_none_stands(self):
+        seats, likes, hates = ALL_HATE
+        self.house_refused(0, [], [0, 1], [])
+        self.house_refused(0, [0], [], [])
+        self.house_refused(1, seats, [0], hates)
+        self.house_refused(1, seats, [3, 0], hates)
+        self.house_refused(1, seats, likes, hates + [1, 1])
+        self.house_refused(1, seats, likes, hates * 7)
+
     def test_a_house_not_as_told_and_no_such_party(self):
         for s in (8, 1024, TOP):
             self.house_refused(s, [10, 0, 30], [], [])
@@ -145,12 +166,12 @@ class TwoAtOnce(Refusals):
                 self.assertEqual(stands(r, s, SEATS, [], []), [-22])
 
     def test_a_house_and_a_rule_not_as_told(self):
-        for call in (standing, tight):
+        for call in BY_RULE:
             self.assertEqual(call(3, [0], [], []), [-22])
             self.assertEqual(call(TOP, SEATS, [0], [1, 1]), [-22])
 
     def test_all_at_once(self):
-        for call in (standing, tight):
+        for call in BY_RULE:
             self.assertEqual(call(TOP, [0] * 10, [TOP] * 43, [0] * 44), [-22])
         self.assertEqual(vote(TOP, [0] * 10, [TOP] * 43, [0] * 44), [-22])
         self.assertEqual(stands(TOP, TOP, [0] * 10, [TOP] * 43, [0] * 44), [-22])
