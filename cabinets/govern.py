@@ -1,4 +1,4 @@
-"""Votes on a set of parties, which sets are cabinets that stand, and the least of these.
+"""Votes on a set of parties, which sets are cabinets that stand, the least of these, and who is of them.
 
 A set is told as a number in which party i counts 2^i. Likes and hates are
 flat lists: of each like (hate) the two parties one behind the other.
@@ -189,3 +189,12 @@ def smallest(r, seats, likes, hates):
     if not house_and_rule_are_as_told(r, seats, likes, hates):
         return [NOT_AS_TOLD]
     return least_together(standing_cabinets(r, seats, likes, hates), seats)
+
+
+def part(r, i, seats, likes, hates):
+    if not house_and_rule_are_as_told(r, seats, likes, hates):
+        return [NOT_AS_TOLD]
+    if i >= len(seats):
+        return [NO_SUCH_PARTY]
+    standing_sets = standing_cabinets(r, seats, likes, hates)
+    return [len([s for s in standing_sets if is_of(i, s)]), len(standing_sets)]

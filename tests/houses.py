@@ -95,6 +95,11 @@ def told_smallest(r, seats, likes, hates):
     return told_least(seats_of, r, seats, likes, hates)
 
 
+def told_part(r, i, seats, likes, hates):
+    those = told_standing(r, seats, likes, hates)[1:]
+    return [sum(i in parties_of(s) for s in those), len(those)]
+
+
 # A house of six parties, and the same told by 40 likes' and 40 hates' numbers:
 # the last like and the last hate stand there once alone.
 SIX = ([50, 40, 30, 20, 10, 5], [3, 0, 4, 1, 5, 2], [0, 2, 4, 5])

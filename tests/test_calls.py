@@ -36,6 +36,15 @@ CALLS = [
     (govern.stands, (3, 1), HOUSE),
     (govern.stands, (1, 1), ([10, 5], [], [0, 2])),
     (govern.stands, (1, 0), ([], [], [])),
+    (govern.part, (0, 0), HOUSE),
+    (govern.part, (1, 3), HOUSE),
+    (govern.part, (2, 1), HOUSE),
+    (govern.part, (2, 4), HOUSE),
+    (govern.part, (2, TOP), HOUSE),
+    (govern.part, (3, 1), HOUSE),
+    (govern.part, (0, 0), ALL_HATE),
+    (govern.part, (1, 0), ([10, 5], [], [1, 1])),
+    (govern.part, (1, 0), ([], [], [])),
 ]
 BY_RULE = (govern.standing, govern.tight, govern.fewest, govern.smallest)
 for each in BY_RULE:
@@ -53,6 +62,8 @@ class EachCallByItself(unittest.TestCase):
         self.assertEqual(list(inspect.signature(govern.stands).parameters), ["r", "s", "seats", "likes", "hates"])
         self.assertEqual(govern.vote(s=1, seats=[1], likes=[], hates=[]), [1, 0, 0])
         self.assertEqual(govern.stands(r=0, s=1, seats=[1], likes=[], hates=[]), [1])
+        self.assertEqual(list(inspect.signature(govern.part).parameters), ["r", "i", "seats", "likes", "hates"])
+        self.assertEqual(govern.part(r=0, i=0, seats=[1], likes=[], hates=[]), [1, 1])
         for call in BY_RULE:
             self.assertEqual(list(inspect.signature(call).parameters), ["r", "seats", "likes", "hates"])
             self.assertEqual(call(r=0, seats=[1], likes=[], hates=[]), [1, 1])
@@ -74,12 +85,22 @@ class EachCallByItself(unittest.TestCase):
         self.assertEqual(govern.tight(0, [10, 20], both, both), [1, 2])
         self.assertEqual(govern.fewest(0, [10, 20], both, both), [1, 2])
         self.assertEqual(govern.smallest(0, [10, 20], both, both), [20, 2])
+        self.assertEqual(govern.stands(0, 2, [10, 20], both, both), [1])
+        self.assertEqual(govern.part(0, 0, [10, 20], both, both), [0, 1])
         self.assertEqual(both, [0, 1])
 
     def test_the_same_call_twice_answers_the_same(self):
         first = [call(*ahead, *house) for call, ahead, house in CALLS]
         second = [call(*ahead, *house) for call, ahead, house in reversed(CALLS)]
         self.assertEqual(first, second[::-1])
+
+    def test_calls_of_others_in_between_change_nothing(self):
+        for call, ahead, house in CALLS:
+            first = call(*ahead, *house)
+            for other, before, other_house in CALLS:
+                if other is not call:
+                    other(*before, *other_house)
+            self.assertEqual(call(*ahead, *house), first)
 
     def test_changing_an_answer_changes_no_later_one(self):
         for call, ahead, house in CALLS:
@@ -95,6 +116,17 @@ class EachCallByItself(unittest.TestCase):
             self.assertIs(type(answer), list)
             self.assertEqual([type(number) for number in answer], [int] * len(answer))
 
+    def test_only_a_refusal_is_below_0_and_that_alone(self):
+        met = set()
+        for call, ahead, house in CALLS:
+            answer = call(*ahead, *house)
+            if min(answer) < 0:
+                self.assertEqual(len(answer), 1)
+                met.add((call.__name__, answer[0]))
+        every = {call.__name__ for call, _, _ in CALLS}
+        self.assertEqual(met, {(name, -22) for name in every}
+                         | {("vote", -2), ("stands", -2), ("part", -2), ("fewest", -33), ("smallest", -33)})
+
     def test_how_many_numbers_are_answered(self):
         for seats, likes, hates in houses(70):
             for s in range(2 ** len(seats) + 2):
@@ -107,6 +139,9 @@ class EachCallByItself(unittest.TestCase):
                     self.assertEqual(len(answer), 1 if answer[0] < 0 else 1 + answer[0])
                 for call in (govern.fewest, govern.smallest):
                     answer = call(r, seats, likes, hates)
+                    self.assertEqual(len(answer), 1 if answer[0] < 0 else 2)
+                for i in range(len(seats) + 2):
+                    answer = govern.part(r, i, seats, likes, hates)
                     self.assertEqual(len(answer), 1 if answer[0] < 0 else 2)
 
     def test_nothing_is_printed(self):

@@ -1,4 +1,4 @@
-"""The package keeps to the small part of Python that it is written in (the rules L1 to L28, as far as a test can see)."""
+"""The package keeps to the small part of Python that it is written in (L1 to L28, as far as a test can see)."""
 
 import ast
 import builtins
@@ -88,6 +88,22 @@ class Form(unittest.TestCase):
                 self.assertNotIsInstance(node.value, (float, bytes, complex), where)
             if isinstance(node, ast.BinOp) and isinstance(node.op, ast.Pow):
                 self.assertIsInstance(node.right, ast.Constant, where)
+            if isinstance(node, ast.ListComp):
+                self.assertEqual(len(node.generators), 1, where)
+                self.assertLessEqual(len(node.generators[0].ifs), 1, where)
+            if isinstance(node, ast.Compare):
+                self.assertFalse([op for op in node.ops if isinstance(op, (ast.Is, ast.IsNot))], where)
+
+    def test_walked_at_once_and_no_sets(self):
+        for path in sources():
+            tree = list(ast.walk(ast.parse(path.read_text("utf-8"))))
+            walked = [node.iter.func for node in tree
+                      if isinstance(node, (ast.For, ast.comprehension)) and isinstance(node.iter, ast.Call)]
+            for node in tree:
+                if isinstance(node, ast.Name) and node.id in ("range", "zip", "enumerate", "reversed"):
+                    self.assertIn(node, walked, (path.name, node.lineno))
+                if isinstance(node, ast.Name):
+                    self.assertNotIn(node.id, ("set", "frozenset"), (path.name, node.lineno))
 
     def test_names(self):
         for name, node in nodes():

@@ -2,7 +2,7 @@
 
 import unittest
 
-from cabinets.govern import fewest, smallest, standing, stands, tight, vote
+from cabinets.govern import fewest, part, smallest, standing, stands, tight, vote
 from tests.houses import ALL_HATE, TOP
 
 SEATS = [10, 20, 30]
@@ -26,6 +26,15 @@ class Refusals(unittest.TestCase):
             for r in range(3):
                 for call in BY_RULE:
                     self.assertEqual(call(r, seats, likes, hates), [-22])
+                # Whether there is such a party or not.
+                for i in (0, len(seats), TOP):
+                    self.assertEqual(part(r, i, seats, likes, hates), [-22])
+
+    def party_refused(self, i, seats, likes, hates):
+        """part, by each rule, answers -2 alone."""
+        with self.subTest(i=i, seats=seats, likes=likes, hates=hates):
+            for r in range(3):
+                self.assertEqual(part(r, i, seats, likes, hates), [-2])
 
     def not_refused(self, s, seats, likes, hates):
         with self.subTest(s=s, seats=seats, likes=likes, hates=hates):
@@ -40,6 +49,8 @@ class Refusals(unittest.TestCase):
                     one_stands = standing(r, seats, likes, hates) != [0]
                     self.assertEqual(len(call(r, seats, likes, hates)), 2 if one_stands else 1)
                     self.assertNotEqual(call(r, seats, likes, hates), [-22])
+                for i in range(len(seats)):
+                    self.assertEqual(part(r, i, seats, likes, hates)[1:], standing(r, seats, likes, hates)[:1])
 
 
 class HouseNotAsTold(Refusals):
@@ -83,6 +94,8 @@ class HouseNotAsTold(Refusals):
         self.assertEqual(fewest(1, SEATS, [], [0, 1] * 19 + [2, 0]), [2, 6])
         self.assertEqual(smallest(1, SEATS, [0, 1] * 19 + [2, 0], []), [10, 1])
         self.assertEqual(smallest(1, SEATS, [], [0, 1] * 19 + [2, 0]), [50, 6])
+        self.assertEqual(part(1, 0, SEATS, [0, 1] * 19 + [2, 0], []), [4, 5])
+        self.assertEqual(part(1, 0, SEATS, [], [0, 1] * 19 + [2, 0]), [0, 1])
 
     def test_one_that_likes_or_hates_itself(self):
         for told in ([0, 0], [2, 2], [0, 1, 1, 1], [1, 1, 0, 1]):
@@ -121,12 +134,15 @@ class RuleNotAsTold(unittest.TestCase):
             for call in BY_RULE:
                 self.assertEqual(call(r, SEATS, [0, 1], [1, 2]), [-22])
                 self.assertEqual(call(r, [7], [], []), [-22])
+            for i in range(3):
+                self.assertEqual(part(r, i, SEATS, [0, 1], [1, 2]), [-22])
 
     def test_a_rule_above_2_where_none_stands(self):
         for r in (3, TOP):
             for call in BY_RULE:
                 self.assertEqual(call(r, [], [], []), [-22])
                 self.assertEqual(call(r, *ALL_HATE), [-22])
+            self.assertEqual(part(r, 0, *ALL_HATE), [-22])
 
 
 class NoSuchParty(Refusals):
@@ -139,6 +155,25 @@ class NoSuchParty(Refusals):
             self.not_refused(2 ** parties - 1, [1] * parties, [], [])
             self.set_refused(2 ** parties, [1] * parties, [], [])
             self.set_refused(TOP, [1] * parties, [], [])
+
+
+    def test_there_is_no_such_party(self):
+        for i in (3, 4, 5, 6, 32, 2 ** 31, TOP):
+            self.party_refused(i, SEATS, [0, 1], [1, 2])
+
+    def test_the_last_party_that_there_is(self):
+        for parties in range(1, 7):
+            self.assertEqual(part(0, parties - 1, [1] * parties, [], []), [2 ** (parties - 1), 2 ** parties - 1])
+            self.party_refused(parties, [1] * parties, [], [])
+            self.party_refused(TOP, [1] * parties, [], [])
+
+    def test_no_party_at_all(self):
+        for i in (0, 1, 5, 6, TOP):
+            self.party_refused(i, [], [], [])
+
+    def test_no_such_party_where_none_stands(self):
+        for i in (3, TOP):
+            self.party_refused(i, *ALL_HATE)
 
 
 class TwoAtOnce(Refusals):
@@ -164,6 +199,9 @@ class TwoAtOnce(Refusals):
         for r in (3, TOP):
             for s in (8, TOP):
                 self.assertEqual(stands(r, s, SEATS, [], []), [-22])
+            for i in (3, TOP):
+                self.assertEqual(part(r, i, SEATS, [], []), [-22])
+                self.assertEqual(part(r, i, [], [], []), [-22])
 
     def test_a_house_and_a_rule_not_as_told(self):
         for call in BY_RULE:
@@ -175,6 +213,7 @@ class TwoAtOnce(Refusals):
             self.assertEqual(call(TOP, [0] * 10, [TOP] * 43, [0] * 44), [-22])
         self.assertEqual(vote(TOP, [0] * 10, [TOP] * 43, [0] * 44), [-22])
         self.assertEqual(stands(TOP, TOP, [0] * 10, [TOP] * 43, [0] * 44), [-22])
+        self.assertEqual(part(TOP, TOP, [0] * 10, [TOP] * 43, [0] * 44), [-22])
 
 
 if __name__ == "__main__":

@@ -1,9 +1,9 @@
-"""Promise 3: standing, in ordinary houses, at the edges that the document names, and what holds of it."""
+"""Promise 3: standing, in ordinary houses and at the edges that the document names."""
 
 import unittest
 
 from cabinets.govern import standing, stands
-from tests.houses import ALONE_OR_THREE, SIX, houses, parties_of, seats_of, told_standing
+from tests.houses import ALONE_OR_THREE, SIX, houses, parties_of, told_standing
 
 
 def by_each_rule(seats, likes, hates):
@@ -79,7 +79,7 @@ class Edges(unittest.TestCase):
         self.assertEqual(standing(1, [10, 20, 30], [2, 1], []), [5, 2, 3, 5, 6, 7])
 
 
-class WhatHolds(unittest.TestCase):
+class WhatIsTold(unittest.TestCase):
     def test_just_the_sets_of_which_stands_answers_1(self):
         for seats, likes, hates in houses(350):
             for r in range(3):
@@ -88,42 +88,6 @@ class WhatHolds(unittest.TestCase):
                     for s in range(2 ** len(seats)):
                         self.assertEqual(stands(r, s, seats, likes, hates), [int(s in those)])
                     self.assertLess(max(those, default=0), 2 ** len(seats))
-
-    def test_rule_1_then_rule_0_then_rule_2(self):
-        met = [0, 0, 0]
-        for seats, likes, hates in houses(350):
-            with self.subTest(seats=seats, likes=likes, hates=hates):
-                by_rule = by_each_rule(seats, likes, hates)
-                self.assertLessEqual(set(by_rule[1][1:]), set(by_rule[0][1:]))
-                self.assertLessEqual(set(by_rule[0][1:]), set(by_rule[2][1:]))
-                met = [m + answer[0] for m, answer in zip(met, by_rule)]
-        # The three rules must differ in these houses, or the order is not tried.
-        self.assertTrue(0 < met[1] < met[0] < met[2])
-
-    def test_two_with_more_than_half_of_all_seats_have_somebody_in_common(self):
-        met = 0
-        for seats, likes, hates in houses(350):
-            for r in range(3):
-                large = [s for s in standing(r, seats, likes, hates)[1:] if 2 * seats_of(s, seats) > sum(seats)]
-                for one in large:
-                    for other in large:
-                        met += one != other
-                        with self.subTest(one=one, other=other, r=r, seats=seats, likes=likes, hates=hates):
-                            self.assertTrue(parties_of(one) & parties_of(other))
-        self.assertGreater(met, 0)
-
-    def test_with_one_hate_less_all_that_stood_stands(self):
-        more = 0
-        for seats, likes, hates in houses(210):
-            for k in range(0, len(hates), 2):
-                fewer = hates[:k] + hates[k + 2:]
-                for r in range(3):
-                    with self.subTest(r=r, seats=seats, likes=likes, hates=hates, fewer=fewer):
-                        before = standing(r, seats, likes, hates)
-                        after = standing(r, seats, likes, fewer)
-                        self.assertLessEqual(set(before[1:]), set(after[1:]))
-                        more += after[0] > before[0]
-        self.assertGreater(more, 0)
 
     def test_as_the_words_told_once_more(self):
         for seats, likes, hates in houses(350, start=2):
